@@ -3,16 +3,26 @@
 from keptapart.states import (
     Deed,
     all_states,
+    are_free,
+    deeds_in,
+    fewest_asked_sets,
+    fewest_that_break,
+    first_break,
     first_breaking_row,
+    first_clash,
+    first_opening,
+    has_other_deeds,
     has_other_facts,
     has_other_states,
     has_what_it_needs,
-    how_many_states,
+    how_many_in,
     is_deed,
     is_let,
+    most_free_sets,
     put_together,
     state_after,
     states_reached,
+    twos_that_clash,
 )
 
 NOT_BEGUN = -61
@@ -20,8 +30,11 @@ NO_SUCH_DEED = -2
 NOT_AS_TOLD = -22
 NO_MORE_DEEDS = -28
 NEED_NOT_SO = -6
+BEGINS_NOT_LET = -6
 NOT_LET = -33
 IS_KEPT = -33
+NO_CLASH = -33
+IS_CLOSED = -33
 
 MOST_FACTS = 4
 MOST_DEEDS = 6
@@ -138,29 +151,95 @@ def answer_together(held, told):
     return [put_together(s, states)]
 
 
-def first_break(held, k):
-    """The first state from which k copies break the rule, to what each came, what's put together; empty if kept."""
-    for s in range(how_many_states(held.facts)):
-        if is_let(held.rule, s):
-            row = first_breaking_row(held.rule, held.deeds, s, k)
-            if len(row) > 0:
-                return [s] + row + [put_together(s, row)]
-    return []
-
-
 def answer_keeps(held, told):
     if not is_count_of_copies(told[0]):
         return [NOT_AS_TOLD]
-    return yes_or_no(len(first_break(held, told[0])) == 0)
+    return yes_or_no(len(first_break(held.rule, held.deeds, told[0])) == 0)
 
 
 def answer_broken(held, told):
     if not is_count_of_copies(told[0]):
         return [NOT_AS_TOLD]
-    found = first_break(held, told[0])
+    found = first_break(held.rule, held.deeds, told[0])
     if len(found) == 0:
         return [IS_KEPT]
     return found
+
+
+def answer_fewest(held, told):
+    fewest = fewest_that_break(held.facts, held.rule, held.deeds)
+    if fewest == 0:
+        return [IS_KEPT]
+    return [fewest]
+
+
+def answer_broken_at(held, told):
+    k = told[0]
+    s = told[1]
+    if not is_count_of_copies(k):
+        return [NOT_AS_TOLD]
+    if not is_state(held, s):
+        return [NOT_AS_TOLD]
+    if not is_let(held.rule, s):
+        return [BEGINS_NOT_LET]
+    row = first_breaking_row(held.rule, held.deeds, s, k)
+    if len(row) == 0:
+        return [IS_KEPT]
+    return [put_together(s, row)] + row
+
+
+def answer_clash(held, told):
+    if not has_deed(held, told[0]) or not has_deed(held, told[1]):
+        return [NO_SUCH_DEED]
+    found = first_clash(held.rule, held.deeds[told[0]], held.deeds[told[1]])
+    if len(found) == 0:
+        return [NO_CLASH]
+    return found
+
+
+def answer_clashes(held, told):
+    twos = twos_that_clash(held.rule, held.deeds)
+    answer = [len(twos)]
+    for two in twos:
+        answer.extend(two)
+    return answer
+
+
+def answer_free(held, told):
+    if has_other_deeds(held.deeds, told[0]):
+        return [NOT_AS_TOLD]
+    return yes_or_no(are_free(held.rule, deeds_in(held.deeds, told[0])))
+
+
+def answer_most_free(held, told):
+    found = most_free_sets(held.rule, held.deeds)
+    return [len(found)] + found
+
+
+def answer_asked(held, told):
+    found = fewest_asked_sets(held.rule, held.deeds)
+    return [how_many_in(found[0])] + found
+
+
+def answer_alone(held, told):
+    if not has_deed(held, told[0]):
+        return [NO_SUCH_DEED]
+    return yes_or_no(are_free(held.rule, [held.deeds[told[0]]]))
+
+
+def answer_closed(held, told):
+    return yes_or_no(len(first_opening(held.rule)) == 0)
+
+
+def answer_open_states(held, told):
+    found = first_opening(held.rule)
+    if len(found) == 0:
+        return [IS_CLOSED]
+    return found
+
+
+def answer_state(held, told):
+    return [held.facts, len(held.deeds), how_many_in(held.rule)]
 
 
 # For each call, by its number: how many whole numbers are told (ahead of a row), and what answers it.
@@ -176,6 +255,17 @@ CALLS = (
     (1, answer_together),
     (1, answer_keeps),
     (1, answer_broken),
+    (0, answer_fewest),
+    (2, answer_broken_at),
+    (2, answer_clash),
+    (0, answer_clashes),
+    (1, answer_free),
+    (0, answer_most_free),
+    (0, answer_asked),
+    (1, answer_alone),
+    (0, answer_closed),
+    (0, answer_open_states),
+    (0, answer_state),
 )
 
 

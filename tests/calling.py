@@ -49,6 +49,50 @@ def broken(k):
     return [10, k]
 
 
+def fewest():
+    return [11]
+
+
+def broken_at(k, s):
+    return [12, k, s]
+
+
+def clash(i, j):
+    return [13, i, j]
+
+
+def clashes():
+    return [14]
+
+
+def free(x):
+    return [15, x]
+
+
+def most_free():
+    return [16]
+
+
+def asked():
+    return [17]
+
+
+def alone(i):
+    return [18, i]
+
+
+def closed():
+    return [19]
+
+
+def open_states():
+    return [20]
+
+
+def state():
+    return [21]
+
+
 def one_list(calls):
     return [number for call in calls for number in call]
 
@@ -82,4 +126,17 @@ LOOK = [
     *[let(s) for s in range(17)],
     *[deed_is(i) for i in range(7)],
     *[reach(s) for s in range(17)],
+    state(),
 ]
+
+
+def changes_nothing(ahead, call):
+    """Whether all looks the same behind the call as without it."""
+    return ask(*ahead, call, *LOOK)[len(ahead) + 1:] == ask(*ahead, *LOOK)[len(ahead):]
+
+
+# Objects of which each call tells something.
+NOT_BOTH = [begin(2), rule(all_but(2, 3)), deed(0, 0, 1, 0), deed(0, 0, 2, 0)]
+# Each deed asks that no fact is so yet: a copy makes one fact so, two copies two, three all.
+ONE_EACH = [begin(3), rule(all_but(3, 7)), deed(7, 0, 1, 0), deed(7, 0, 2, 0), deed(7, 0, 4, 0)]
+ONE_EACH_OF_FOUR = [begin(4), rule(all_but(4, 15))] + [deed(15, 0, f, 0) for f in (1, 2, 4, 8)]

@@ -22,6 +22,26 @@ NOWHERE = re.compile(
     r"|namedtuple|NamedTuple|TypedDict|TYPE_CHECKING|abstractmethod)\b|dataclass|overload|contextmanager"
 )
 PYTHONS_OWN = dir(builtins)
+METHODS = """
+    append clear copy count endswith extend find get index insert isalnum isalpha isdigit islower isspace isupper items
+    join keys ljust lower lstrip partition pop remove replace reverse rfind rjust rpartition rsplit rstrip setdefault
+    split splitlines startswith strip update upper values zfill bit_length
+""".split()
+WALKED = "zip enumerate reversed range items keys values".split()
+WALKERS = "list tuple dict sorted sum any all enumerate zip min max".split()
+
+
+def called_name(node):
+    """The name by which a call is made; nothing if it's no call by a name."""
+    if not isinstance(node, ast.Call):
+        return None
+    return getattr(node.func, "id", None) or getattr(node.func, "attr", None)
+
+
+def walked_on_the_spot(tree):
+    spots = [node.iter for node in ast.walk(tree) if isinstance(node, (ast.For, ast.comprehension))]
+    spots += [node.args[0] for node in ast.walk(tree) if called_name(node) in WALKERS and node.args]
+    return spots
 
 
 class Form(unittest.TestCase):
@@ -67,6 +87,35 @@ class Form(unittest.TestCase):
                 if isinstance(node, (ast.Name, ast.arg, ast.Attribute)):
                     name = getattr(node, "id", None) or getattr(node, "arg", None) or node.attr
                     self.assertFalse(name.startswith("_"), name)
+
+    def test_methods_and_values(self):
+        trees = [tree for text, tree in self.each_file()]
+        own = {node.attr for tree in trees for node in ast.walk(tree)
+               if isinstance(node, ast.Attribute) and isinstance(node.ctx, ast.Store)}
+        self.assertFalse(own & {*METHODS, *PYTHONS_OWN})
+        for node in [node for tree in trees for node in ast.walk(tree)]:
+            if isinstance(node, ast.Attribute):
+                self.assertIn(node.attr, {*METHODS, *own})
+
+    def test_walked_at_once(self):
+        for text, tree in self.each_file():
+            spots = walked_on_the_spot(tree)
+            for node in ast.walk(tree):
+                if called_name(node) in WALKED:
+                    self.assertTrue(any(node is spot for spot in spots), node.lineno)
+
+    def test_each_name_of_a_top_once(self):
+        for text, tree in self.each_file():
+            names = [node.name for node in tree.body if isinstance(node, (ast.FunctionDef, ast.ClassDef))]
+            names += [node.targets[0].id for node in tree.body if isinstance(node, ast.Assign)]
+            names += [name.name for node in tree.body if isinstance(node, ast.ImportFrom) for name in node.names]
+            self.assertEqual(len(names), len(set(names)))
+
+    def test_no_import_that_is_not_used(self):
+        for text, tree in self.each_file():
+            used = {node.id for node in ast.walk(tree) if isinstance(node, ast.Name)}
+            for node in [node for node in tree.body if isinstance(node, ast.ImportFrom)]:
+                self.assertTrue({name.name for name in node.names} <= used)
 
 
 if __name__ == "__main__":

@@ -1,19 +1,22 @@
-"""Point 1: begin, rule, deed, drop, deed_is; and what is answered till a begin is answered 0."""
+"""Point 1: begin, rule, deed, drop, deed_is, state; and what is answered till a begin is answered 0."""
 
 import unittest
 
 from calling import (
-    GREATEST, LOOK, all_but, ask, begin, broken, deed, deed_is, does, drop, keeps, last, let, one_list, reach, rule,
-    together,
+    GREATEST, LOOK, all_but, alone, ask, asked, begin, broken, broken_at, changes_nothing, clash, clashes, closed, deed,
+    deed_is, does, drop, fewest, free, keeps, last, let, most_free, one_list, open_states, reach, rule, state, together,
 )
 from keptapart.copies import answers
 
 OTHERS = [
     rule(1), deed(0, 0, 1, 0), drop(0), deed_is(0), let(0), does(0, 0), reach(0), together(0, 1), keeps(1), broken(1),
+    fewest(), broken_at(1, 0), clash(0, 0), clashes(), free(0), most_free(), asked(), alone(0), closed(), open_states(),
+    state(),
 ]
 WRONG_OTHERS = [
     rule(GREATEST), deed(GREATEST, 0, 0, 0), drop(GREATEST), deed_is(GREATEST), let(GREATEST),
     does(GREATEST, GREATEST), reach(GREATEST), together(GREATEST), keeps(GREATEST), broken(GREATEST),
+    broken_at(GREATEST, GREATEST), clash(GREATEST, GREATEST), free(GREATEST), alone(GREATEST),
 ]
 
 
@@ -21,13 +24,14 @@ class NotBegun(unittest.TestCase):
     def test_every_other_call_is_refused(self):
         for call in OTHERS + WRONG_OTHERS:
             self.assertEqual(answers(call), [1, -61], call)
+            self.assertEqual(answers(one_list([begin(5), call])), [1, -22, 1, -61], call)
 
     def test_a_refused_begin_begins_nothing(self):
         self.assertEqual(answers(one_list([begin(0), let(0), begin(5), let(0)])), [1, -22, 1, -61, 1, -22, 1, -61])
 
     def test_what_was_refused_ahead_of_begin_changes_nothing(self):
-        calls = OTHERS + [begin(2)] + LOOK
-        self.assertEqual(ask(*calls)[len(OTHERS):], ask(begin(2), *LOOK))
+        for call in OTHERS:
+            self.assertEqual(ask(call, begin(2), *LOOK)[1:], ask(begin(2), *LOOK), call)
 
 
 class Begin(unittest.TestCase):
@@ -57,7 +61,7 @@ class Begin(unittest.TestCase):
         ahead = [begin(3), rule(5), deed(1, 1, 2, 0), deed(0, 0, 4, 0)]
         for facts in (0, 5, GREATEST):
             self.assertEqual(last(*ahead, begin(facts)), [-22])
-            self.assertEqual(ask(*ahead, begin(facts), *LOOK)[len(ahead) + 1:], ask(*ahead, *LOOK)[len(ahead):])
+            self.assertTrue(changes_nothing(ahead, begin(facts)))
 
 
 class Rule(unittest.TestCase):
@@ -80,7 +84,7 @@ class Rule(unittest.TestCase):
             for states in (2 ** 2 ** facts, 2 ** 2 ** facts + 1, GREATEST):
                 ahead = [begin(facts), rule(2)]
                 self.assertEqual(last(*ahead, rule(states)), [-22])
-                self.assertEqual(ask(*ahead, rule(states), *LOOK)[3:], ask(*ahead, *LOOK)[2:])
+                self.assertTrue(changes_nothing(ahead, rule(states)))
 
     def test_deeds_stay(self):
         self.assertEqual(last(begin(2), deed(1, 1, 2, 0), rule(3), deed_is(0)), [4, 1, 1, 2, 0])
@@ -127,7 +131,7 @@ class DeedAdded(unittest.TestCase):
     def test_refused_it_changes_nothing(self):
         ahead = [begin(2), rule(11)] + [deed(0, 0, i % 4, 0) for i in range(6)]
         for told in ((0, 1, 0, 0), (0, 0, 1, 1), (0, 0, 1, 0)):
-            self.assertEqual(ask(*ahead, deed(*told), *LOOK)[len(ahead) + 1:], ask(*ahead, *LOOK)[len(ahead):])
+            self.assertTrue(changes_nothing(ahead, deed(*told)))
 
 
 class Drop(unittest.TestCase):
@@ -155,7 +159,7 @@ class Drop(unittest.TestCase):
         ahead = [begin(2), rule(all_but(2, 3)), deed(0, 0, 1, 0), deed(1, 1, 2, 1)]
         for i in (2, 6, GREATEST):
             self.assertEqual(last(*ahead, drop(i)), [-2])
-            self.assertEqual(ask(*ahead, drop(i), *LOOK)[len(ahead) + 1:], ask(*ahead, *LOOK)[len(ahead):])
+            self.assertTrue(changes_nothing(ahead, drop(i)))
 
 
 class DeedIs(unittest.TestCase):
@@ -166,6 +170,41 @@ class DeedIs(unittest.TestCase):
     def test_looking_changes_nothing(self):
         ahead = [begin(2), deed(3, 2, 1, 2)]
         self.assertEqual(ask(*ahead, deed_is(0), deed_is(0))[2:], [[4, 3, 2, 1, 2]] * 2)
+
+
+class State(unittest.TestCase):
+    def test_facts_then_deeds_then_states_let(self):
+        calls = [begin(4), state(), rule(7), deed(0, 0, 1, 0), deed(0, 0, 2, 0), state()]
+        self.assertEqual(answers(one_list(calls)), [1, 0, 3, 4, 0, 16, 1, 0, 1, 0, 1, 1, 3, 4, 2, 3])
+
+    def test_as_begun(self):
+        for facts in range(1, 5):
+            self.assertEqual(answers(one_list([begin(facts), state()])), [1, 0, 3, facts, 0, 2 ** facts])
+
+    def test_all_let_and_none_let(self):
+        for facts in range(1, 5):
+            given = ask(begin(facts), rule(0), state(), rule(2 ** 2 ** facts - 1), state())
+            self.assertEqual(given[2::2], [[facts, 0, 0], [facts, 0, 2 ** facts]])
+
+    def test_every_rule_of_three_facts(self):
+        for states in range(256):
+            self.assertEqual(last(begin(3), rule(states), state()), [3, 0, bin(states).count("1")])
+
+    def test_the_last_state_alone(self):
+        self.assertEqual(last(begin(4), rule(2 ** 15), state()), [4, 0, 1])
+
+    def test_deeds_that_come_and_go(self):
+        calls = [begin(1)] + [deed(0, 0, 1, 0), state()] * 7 + [drop(0), state(), drop(9), state(), begin(2), state()]
+        given = ask(*calls)
+        self.assertEqual(given[2:15:2], [[1, n, 2] for n in (1, 2, 3, 4, 5, 6, 6)])
+        self.assertEqual(given[15:], [[5], [1, 5, 2], [-2], [1, 5, 2], [0], [2, 0, 4]])
+
+    def test_what_is_refused_does_not_count(self):
+        calls = [begin(2), rule(11), rule(16), begin(5), deed(0, 1, 0, 0), drop(0), state()]
+        self.assertEqual(last(*calls), [2, 0, 3])
+
+    def test_looking_changes_nothing(self):
+        self.assertTrue(changes_nothing([begin(2), rule(11), deed(3, 2, 1, 2)], state()))
 
 
 if __name__ == "__main__":

@@ -1,77 +1,13 @@
-"""The document's words, said once more with sets of facts, against what is answered of many objects."""
+"""What is answered, against the document's words said once more, over many objects and many lists of calls."""
 
-import itertools
 import unittest
 
-from calling import ask, begin, broken, deed, does, keeps, reach, rule, together
-
-
-class Numbers:
-    """A row of numbers that is the same each time, so that a test that fails fails again."""
-
-    def __init__(self, first):
-        self.now = first
-
-    def below(self, end):
-        self.now = (self.now * 6364136223846793005 + 1442695040888963407) % 2 ** 64
-        return (self.now >> 33) % end
-
-
-def as_set(number):
-    return frozenset(f for f in range(number.bit_length()) if number >> f & 1)
-
-
-def as_number(facts):
-    return sum(2 ** f for f in facts)
-
-
-def chosen_deed(numbers, facts):
-    """More facts make a deed rarer to be done: two of three deeds need few."""
-    need = be = on = off = 0
-    for f in range(facts):
-        if numbers.below(3) == 0:
-            need += 2 ** f
-            be += 2 ** f * numbers.below(2)
-        change = numbers.below(4)
-        if change == 0:
-            on += 2 ** f
-        if change == 1:
-            off += 2 ** f
-    return need, be, on, off
-
-
-class Words:
-    def __init__(self, facts, states, deeds):
-        self.let = {as_set(s) for s in range(2 ** facts) if states >> s & 1}
-        self.states = [as_set(s) for s in range(2 ** facts)]
-        self.deeds = [tuple(as_set(part) for part in told) for told in deeds]
-
-    def does(self, s, told):
-        need, be, on, off = told
-        if {f for f in s if f in need} != be:
-            return -6
-        after = frozenset(f for f in s | on if f not in off)
-        return as_number(after) if after in self.let else -33
-
-    def reach(self, s):
-        found = {s}
-        while True:
-            more = {as_set(y) for x in found for told in self.deeds for y in [self.does(x, told)] if y >= 0} - found
-            if not more:
-                return sorted(as_number(x) for x in found)
-            found |= more
-
-    def together(self, s, row):
-        changed = frozenset().union(*[s.symmetric_difference(y) for y in row])
-        return s.symmetric_difference(changed)
-
-    def broken(self, k):
-        for s in [s for s in self.states if s in self.let]:
-            for row in itertools.combinations_with_replacement(self.reach(s), k):
-                joined = self.together(s, [as_set(y) for y in row])
-                if joined not in self.let:
-                    return [as_number(s), *row, as_number(joined)]
-        return [-33]
+from calling import (
+    alone, ask, asked, begin, broken, broken_at, clash, clashes, closed, deed, does, fewest, free, keeps, most_free,
+    one_list, open_states, reach, rule, state, together,
+)
+from keptapart.copies import answers
+from words import NAMES, Line, Numbers, Words, as_number, as_set, chosen_calls, chosen_object
 
 
 class AsTheWordsSay(unittest.TestCase):
@@ -96,24 +32,46 @@ class AsTheWordsSay(unittest.TestCase):
         given = ask(*ahead, *[broken(k) for k in range(1, 5)], *[keeps(k) for k in range(1, 5)])[len(ahead):]
         self.assertEqual(given[:4], first)
         self.assertEqual(given[4:], [[1] if found == [-33] else [0] for found in first])
-        return first
+        self.check_breaks(words, ahead)
+        self.check_deeds(words, ahead)
+        return words.fewest()
+
+    def check_breaks(self, words, ahead):
+        places = [(k, as_number(s)) for k in range(1, 5) for s in words.states[::len(words.states) // 8 + 1]]
+        given = ask(*ahead, *[broken_at(k, s) for k, s in places])[len(ahead):]
+        self.assertEqual(given, [words.broken_at(k, as_set(s)) if as_set(s) in words.let else [-6] for k, s in places])
+        opening = words.opening()
+        self.assertEqual(ask(*ahead, fewest(), closed(), open_states(), state())[len(ahead):],
+                         [[words.fewest()], [int(opening == [-33])], opening,
+                          [words.facts, len(words.deeds), len(words.let)]])
+
+    def check_deeds(self, words, ahead):
+        count = len(words.deeds)
+        twos = [(i, j) for i in range(count) for j in range(count)]
+        self.assertEqual(ask(*ahead, *[clash(i, j) for i, j in twos])[len(ahead):],
+                         [[words.clash(i, j)] for i, j in twos])
+        found = words.clashes()
+        self.assertEqual(ask(*ahead, clashes())[-1], [len(found), *[i for two in found for i in two]])
+        sets = words.free_sets()
+        for first in range(0, 2 ** count, 32):
+            some = range(first, min(first + 32, 2 ** count))
+            self.assertEqual(ask(*ahead, *[free(x) for x in some])[len(ahead):], [[int(x in sets)] for x in some])
+        self.assertEqual(ask(*ahead, *[alone(i) for i in range(count)])[len(ahead):],
+                         [[int(2 ** i in sets)] for i in range(count)])
+        most = words.most_free()
+        self.assertEqual(ask(*ahead, most_free(), asked())[len(ahead):], [[len(most), *most], words.asked()])
 
     def test_many_objects(self):
         numbers = Numbers(1)
-        fewest = {}
+        seen = {}
         for facts in (1, 2, 2, 3, 3, 3, 4, 4, 4, 4):
             for again in range(30):
-                # Few states that aren't let leave copies more room to come to different states.
-                states = 2 ** 2 ** facts - 1
-                for forbidden in range(1 + numbers.below(4)):
-                    states &= ~(1 << numbers.below(2 ** facts))
-                deeds = [chosen_deed(numbers, facts) for i in range(numbers.below(7))]
+                states, deeds = chosen_object(numbers, facts, numbers.below(7))
                 with self.subTest(facts=facts, states=states, deeds=deeds):
-                    first = self.check(facts, states, deeds, numbers)
-                    by = [found == [-33] for found in first].count(True) + 1
-                    fewest[by] = fewest.get(by, 0) + 1
-        # Objects that keep the rule, and that break it by two copies and by three, all have to be among them.
-        self.assertTrue(all(by in fewest for by in (2, 3, 5)), fewest)
+                    by = self.check(facts, states, deeds, numbers)
+                    seen[by] = seen.get(by, 0) + 1
+        # Objects that keep the rule, and that break it by two, three and four copies, all have to be among them.
+        self.assertTrue(all(by in seen for by in (2, 3, 4, -33)), seen)
 
     def test_every_rule_of_two_facts(self):
         numbers = Numbers(2)
@@ -130,26 +88,39 @@ class AsTheWordsSay(unittest.TestCase):
                     self.check(2, states, deeds, numbers)
 
 
-class WhatHolds(unittest.TestCase):
-    def test_fewer_copies_and_fewer_deeds_are_no_worse(self):
-        numbers = Numbers(3)
-        for again in range(60):
-            ahead = [begin(3), rule(numbers.below(256))]
-            deeds = [deed(*chosen_deed(numbers, 3)) for i in range(4)]
-            kept = [keeps(k) for k in range(1, 5)]
-            by_all = [given[0] for given in ask(*ahead, *deeds, *kept)[6:]]
-            by_fewer = [given[0] for given in ask(*ahead, *deeds[:3], *kept)[5:]]
-            self.assertEqual(by_all, sorted(by_all, reverse=True))
-            self.assertTrue(all(few >= more for few, more in zip(by_fewer, by_all)))
+class ListsOfCalls(unittest.TestCase):
+    def test_sixty_calls_of_all_kinds_in_any_order(self):
+        numbers = Numbers(5)
+        answered = {}
+        refused = {}
+        for again in range(150):
+            calls = chosen_calls(numbers, 60)
+            line = Line()
+            expected = [line.answer(call) for call in calls]
+            whole = [number for answer in expected for number in (len(answer), *answer)]
+            with self.subTest(again=again):
+                self.assertEqual(answers(one_list(calls)), whole)
+            for call, answer in zip(calls, expected):
+                if answer[0] >= 0:
+                    answered[NAMES[call[0]]] = True
+                else:
+                    refused[NAMES[call[0]], answer[0]] = True
+        # What the lists have to hold, so that the test is one of all calls and all refusals.
+        self.assertEqual(sorted(answered), sorted(NAMES))
+        self.assertEqual(sorted(name for name, number in refused if number == -61), sorted(NAMES[1:]))
+        self.assertEqual(sorted(two for two in refused if two[1] != -61), [
+            ("alone", -2), ("begin", -22), ("broken", -33), ("broken", -22), ("broken_at", -33), ("broken_at", -22),
+            ("broken_at", -6), ("clash", -33), ("clash", -2), ("deed", -28), ("deed", -22), ("deed_is", -2),
+            ("does", -33), ("does", -22), ("does", -6), ("does", -2), ("drop", -2), ("fewest", -33), ("free", -22),
+            ("keeps", -22), ("let", -22), ("open_states", -33), ("reach", -22), ("rule", -22), ("together", -22),
+        ])
 
-    def test_as_many_copies_as_facts_tell_of_all(self):
-        numbers = Numbers(4)
-        for again in range(60):
-            facts = 1 + numbers.below(3)
-            ahead = [begin(facts), rule(numbers.below(2 ** 2 ** facts))]
-            ahead += [deed(*chosen_deed(numbers, facts)) for i in range(4)]
-            given = ask(*ahead, *[keeps(k) for k in range(facts, 5)])[len(ahead):]
-            self.assertEqual(given, [given[0]] * len(given))
+    def test_one_call(self):
+        numbers = Numbers(6)
+        for again in range(300):
+            calls = chosen_calls(numbers, 1)
+            expected = Line().answer(calls[0])
+            self.assertEqual(answers(one_list(calls)), [len(expected), *expected])
 
 
 if __name__ == "__main__":
